@@ -1,0 +1,1 @@
+"""Which data can be turned into one another without loss."""
