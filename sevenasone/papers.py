@@ -9,6 +9,7 @@ def fixed(value):
 
 
 def _are_equal(one, other):
+    """Whether a paper and any value are papers of one class with equal words and parts."""
     return type(one) is type(other) and one.word == other.word and one.parts == other.parts
 
 
@@ -20,8 +21,6 @@ class Paper:
         self.parts = fixed(parts)
 
     def __eq__(self, other):
-        if not isinstance(other, Paper):
-            return False
         return _are_equal(self, other)
 
     def __bool__(self):
@@ -35,8 +34,6 @@ class Denial(Paper):
         super().__init__(word, *parts)
 
     def __eq__(self, other):
-        if not isinstance(other, Denial):
-            return False
         return _are_equal(self, other)
 
     def __bool__(self):

@@ -9,12 +9,27 @@ FUNCTIONS = {
     "papers": {"fixed": "value"},
     "counts": {"is_counts": "value", "counts_of": "row", "plus": "one other", "less": "one other",
                "times": "one other", "moved": "counts number", "divided": "counts by"},
+    "trees": {"is_tree": "rule value", "size_of": "rule tree", "layers_of": "rule tree", "tree_text": "rule tree",
+              "read_tree": "rule text"},
+    "stores": {"power_of": "number"},
+    "things": {"is_thing": "rule store value", "thing_size": "rule store thing", "thing_text": "rule store thing",
+               "read_thing": "rule store text", "things_to": "rule store size", "shifted": "rule one other thing"},
+    "steps": {"can_step": "rule store step", "step_store": "rule store step", "step_thing": "rule store step thing",
+              "back_thing": "rule store step thing"},
+    "chains": {"meeting": "chain"},
 }
 
 CLASSES = {
     "papers": {"Paper": {"__init__": "self word *parts", "__eq__": "self other"},
                "Denial": {"__init__": "self word *parts", "__eq__": "self other"}},
     "rules": {"Rule": {"__init__": "self counts", "read": "text", "__str__": "self", "__eq__": "self other"}},
+    "stores": {"Store": {"__init__": "self counts", "read": "text", "has": "self box", "plus": "self other",
+                         "times": "self other", "__str__": "self", "__eq__": "self other"}},
+    "chains": {"Chain": {"__init__": "self rule begin steps", "__len__": "self", "__eq__": "self other",
+                         "stores": "self", "run": "self thing", "back": "self thing", "backwards": "self",
+                         "joined": "self other", "beside": "self store", "under": "self number",
+                         "times": "self store"},
+               "Led": {"__init__": "self steps"}},
 }
 
 
