@@ -34,7 +34,8 @@ class Rule:
         counts = []
         for index, item in enumerate(items):
             count = count_in(item)
-            least = 1 if index == 0 else 0
+            # Behind the last place nothing may stand: so a zero there is the last count, whatever is written behind.
+            least = 1 if index in (0, MOST_COUNTS - 1) else 0
             if index >= MOST_COUNTS or not is_within(count, least, MOST_SORTS):
                 raise BadText(0, index)
             counts.append(count)

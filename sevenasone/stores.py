@@ -31,7 +31,9 @@ class Store:
         counts = []
         for index, item in enumerate(items):
             count = count_in(item)
-            if index > MOST_TREES or count is None:
+            # Behind the last place nothing may stand: so a zero there is the last count, whatever is written behind.
+            least = 1 if index == MOST_TREES else 0
+            if index > MOST_TREES or not is_within(count, least, None):
                 raise BadText(0, index)
             counts.append(count)
         # Another count could have stood behind a zero: only the whole shows that none does.

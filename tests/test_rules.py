@@ -93,6 +93,17 @@ class Rules(Refusals, unittest.TestCase):
             with self.subTest(text=text[:20]):
                 self.refuses_text(item, Rule.read, text)
 
+    def test_read_a_zero_at_the_last_place_that_is_let(self):
+        for ahead in ("1 0 1 0 1", "2 0 0 3 0", "1 1 1 1 1", "3 0 0 0 0"):
+            for behind in (" 0", " 0 0", " 0 1", " 0 x y", " 0 ", " 0  ", " 0 -1 3", " 0" * 1000, " 00", " -0 1"):
+                with self.subTest(text=ahead + behind[:20]):
+                    self.refuses_text(5, Rule.read, ahead + behind)
+            for behind in (" 1 0", " 2 x", " 3 ", " 1 0 0"):
+                with self.subTest(text=ahead + behind):
+                    self.refuses_text(6, Rule.read, ahead + behind)
+        self.refuses_text(4, Rule.read, "1 0 1 0 a 0 0")
+        self.refuses_text(0, Rule.read, "0 0 1 0 0 0 0")
+
     def test_read_what_only_the_whole_shows(self):
         for text, item in (("1 0 0", 2), ("1 1 0", 2), ("1 0 1 0", 3), ("1 1 1 1 0", 4), ("1 1 1 1 1 0", 5),
                            ("1 0 0 0 0 0", 5)):

@@ -168,6 +168,17 @@ class Stores(Refusals, unittest.TestCase):
         self.refuses_text(41, Store.read, " ".join("1" * 50000))
         self.refuses_text(41, Store.read, "1 " * 41)
 
+    def test_read_a_zero_as_the_forty_first_count(self):
+        for ahead in ("1" + " 0" * 39, "0" + " 0" * 39, " ".join("7" * 40)):
+            for behind in (" 0", " 0 0", " 0 3", " 0 -1 3", " 0 x", " 0 ", " 0 -", " 0" * 1000, " 00", " -0 1"):
+                with self.subTest(text=ahead + behind[:20]):
+                    self.refuses_text(40, Store.read, ahead + behind)
+            for behind in (" 1 0", " 1 3", " 5 ", " 1 x", " 1 -"):
+                with self.subTest(text=ahead + behind):
+                    self.refuses_text(41, Store.read, ahead + behind)
+            self.assertEqual(str(Store.read(ahead + " 1")), ahead + " 1")
+        self.refuses_text(39, Store.read, "1" + " 0" * 38 + " a 0 0")
+
     def test_read_what_only_the_whole_shows(self):
         for text, item in (("0", 0), ("1 0", 1), ("0 0 0", 2), ("1 0 1 0", 3), (" ".join("1" * 40 + "0"), 40)):
             self.refuses_text(item, Store.read, text)
