@@ -17,6 +17,11 @@ FUNCTIONS = {
     "steps": {"can_step": "rule store step", "step_store": "rule store step", "step_thing": "rule store step thing",
               "back_thing": "rule store step thing"},
     "chains": {"meeting": "chain"},
+    "check_chains": {"shows_led": "rule one other value"},
+    "alike": {"alike": "rule one other"},
+    "powers": {"powers": "rule", "alike_powers": "rule one other"},
+    "check_alike": {"shows_alike": "rule one other value", "shows_powers": "rule value"},
+    "idle": {"idle_store": "rule", "idle_chain": "rule", "beside_idle": "rule store", "opened_to": "rule store number"},
 }
 
 CLASSES = {
@@ -30,6 +35,9 @@ CLASSES = {
                          "joined": "self other", "beside": "self store", "under": "self number",
                          "times": "self store"},
                "Led": {"__init__": "self steps"}},
+    "alike": {"Divided": {"__init__": "self quotient"}, "Finite": {"__init__": "self which"},
+              "Undivided": {"__init__": "self left"}},
+    "powers": {"Round": {"__init__": "self number factors"}, "Never": {"__init__": "self why what"}},
 }
 
 
