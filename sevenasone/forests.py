@@ -6,16 +6,17 @@ def more_forests(rule, many):
 
     Without the first knot of a row, the parts of it stand in the place of its first tree.
     """
-    found = [0]
-    for trees in range(1, len(many) + 1):
-        kinds = [sorts * many[trees - 1 + parts] for parts, sorts in enumerate(rule.counts[:len(many) + 1 - trees])]
-        found.append(sum(kinds))
+    found = [0] * (len(many) + 1)
+    for parts, sorts in enumerate(rule.counts):
+        if sorts > 0:
+            for others, number in enumerate(many[parts:]):
+                found[others + 1] += sorts * number
     return found
 
 
-def _many_of(table, size, trees):
+def many_of(table, size, trees):
     """How many rows of so many trees have this size together; none has more trees than knots."""
-    if trees >= len(table[size]):
+    if size < 0 or trees >= len(table[size]):
         return 0
     return table[size][trees]
 
@@ -25,7 +26,7 @@ def forests_of(rule, table, size, trees):
 
     The table has, for each size up to this one, how many rows of 0, 1, .. trees there are.
     """
-    if _many_of(table, size, trees) == 0:
+    if many_of(table, size, trees) == 0:
         return []
     # Only rows that can be gone on with are kept: so a tree is wanted as long as knots are left.
     rows = [((), trees)]
@@ -33,7 +34,7 @@ def forests_of(rule, table, size, trees):
         longer = []
         for row, wanted in rows:
             for knot in rule.knots:
-                if _many_of(table, left, wanted - 1 + knot[0]) > 0:
+                if many_of(table, left, wanted - 1 + knot[0]) > 0:
                     longer.append(((*row, knot), wanted - 1 + knot[0]))
         rows = longer
     return [row for row, _ in rows]

@@ -1,72 +1,55 @@
 """Things: boxes of a store with trees in them."""
 
 from sevenasone.checks import is_within
-from sevenasone.errors import BadNumber, BadText, BadThing, TooMany
+from sevenasone.errors import BadNumber, BadThing, TooMany
 from sevenasone.forests import forests_of, more_forests
+from sevenasone.rows import read_in_box, row_in_box, row_text, told_by
 from sevenasone.rules import check_rule
 from sevenasone.stores import boxes_with, check_store
-from sevenasone.texts import items_of, number_in, number_text
-from sevenasone.trees import knots_of, knots_text, read_knots, trees_of_knots
 
 MOST_SIZE = 200
 MOST_THINGS = 400
 
 
-def _knots_in(rule, store, value):
-    """The row of the knots of a thing; None for what is no thing."""
-    if not isinstance(value, (list, tuple)) or not store.has(value[:2]) or len(value) != value[0] + 2:
-        return None
-    return knots_of(rule, value[2:])
-
-
-def _checked_knots(rule, store, thing):
-    knots = _knots_in(rule, store, thing)
-    if knots is None:
+def checked_row(rule, store, thing):
+    """The row of a thing; BadThing for what is none of the store."""
+    row = row_in_box(rule, store, thing, False)
+    if row is None:
         raise BadThing("thing")
-    return knots
+    return row
 
 
 def checked_thing(rule, store, thing):
     """The thing in tuples alone; BadThing for what is none of the store."""
-    knots = _checked_knots(rule, store, thing)
-    return (thing[0], thing[1], *trees_of_knots(knots))
+    return told_by(checked_row(rule, store, thing))
 
 
 def is_thing(rule, store, value):
     """Whether the value is a thing of the store by the rule."""
     check_rule(rule)
     check_store(store, "store")
-    return _knots_in(rule, store, value) is not None
+    return row_in_box(rule, store, value, False) is not None
 
 
 def thing_size(rule, store, thing):
     """How many knots the trees of the thing have together."""
     check_rule(rule)
     check_store(store, "store")
-    return len(_checked_knots(rule, store, thing))
+    return len(checked_row(rule, store, thing)) - 1
 
 
 def thing_text(rule, store, thing):
     """The text of the thing: an item for its box, then the texts of its trees."""
     check_rule(rule)
     check_store(store, "store")
-    knots = _checked_knots(rule, store, thing)
-    box = f"{thing[0]}.{number_text(thing[1])}"
-    if len(knots) == 0:
-        return box
-    return box + " " + knots_text(knots)
+    return row_text(checked_row(rule, store, thing))
 
 
 def read_thing(rule, store, text):
     """The thing whose text this is."""
     check_rule(rule)
     check_store(store, "store")
-    items = items_of(text)
-    trees, _, index = items[0].partition(".")
-    box = (number_in(trees), number_in(index))
-    if not store.has(box):
-        raise BadText(0, 0)
-    return (*box, *trees_of_knots(read_knots(rule, items, 1, box[0])))
+    return read_in_box(rule, store, text, False)
 
 
 def _forests_to(rule, store, size):
@@ -93,9 +76,8 @@ def things_to(rule, store, size):
         for trees, boxes in enumerate(store.counts):
             # Only where there are boxes are the rows of trees few, and only where there are such rows the boxes.
             rows = forests_of(rule, table, knots, trees) if boxes > 0 else []
-            contents = [trees_of_knots(row) for row in rows]
-            if len(contents) > 0:
-                things.extend([(trees, index, *content) for index in range(boxes) for content in contents])
+            if len(rows) > 0:
+                things.extend([told_by([(trees, index), *row]) for index in range(boxes) for row in rows])
     return tuple(things)
 
 

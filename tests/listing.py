@@ -118,3 +118,95 @@ class Boxes:
 
     def told(self, name, trees):
         return (len(trees), self.row(len(trees)).index(name)) + trees
+
+
+def fits_part(part, tree):
+    """Whether a tree fits a part of a pattern, as [9] tells it."""
+    if part == ():
+        return True
+    return part[:2] == tree[:2] and all(map(fits_part, part[2:], tree[2:]))
+
+
+def fits(pattern, thing):
+    return pattern[:2] == thing[:2] and all(map(fits_part, pattern[2:], thing[2:]))
+
+
+def in_holes(part, tree):
+    """The trees in the holes of a part, or of a pattern, from left to right."""
+    if part == ():
+        return [tree]
+    return [found for below, under in zip(part[2:], tree[2:]) for found in in_holes(below, under)]
+
+
+def with_trees(part, trees):
+    """The part, or pattern, with the next trees in its holes."""
+    if part == ():
+        return trees.pop(0)
+    return part[:2] + tuple(with_trees(below, trees) for below in part[2:])
+
+
+def holes_of(part):
+    return 1 if part == () else sum(map(holes_of, part[2:]))
+
+
+def knots_of(part):
+    """How many knots a part has; of a pattern its box, too."""
+    return 0 if part == () else 1 + sum(map(knots_of, part[2:]))
+
+
+def items_of(part):
+    """The items of the text of a part, or of a pattern."""
+    if part == ():
+        return ["-"]
+    return [f"{part[0]}.{part[1]}"] + [item for below in part[2:] for item in items_of(below)]
+
+
+def opened(counts, part, hole):
+    """The part, or pattern, with each knot in the hole with this number, ascending."""
+    if part == ():
+        return [(parts, sort) + ((),) * parts for parts, many in enumerate(counts) for sort in range(many)]
+    for place, below in enumerate(part):
+        if place >= 2:
+            if hole < holes_of(below):
+                return [part[:place] + (new,) + part[place + 1:] for new in opened(counts, below, hole)]
+            hole -= holes_of(below)
+    raise AssertionError("no hole")
+
+
+@functools.lru_cache(maxsize=None)
+def parts_with(counts, knots):
+    """All parts with just so many knots."""
+    if knots == 0:
+        return ((),)
+    return tuple((m, c) + row for m, many in enumerate(counts) for c in range(many)
+                 for row in part_rows(counts, m, knots - 1))
+
+
+@functools.lru_cache(maxsize=None)
+def part_rows(counts, many, knots):
+    """All rows of so many parts with just so many knots together."""
+    if many == 0:
+        return ((),) if knots == 0 else ()
+    return tuple((part,) + row for first in range(knots + 1) for part in parts_with(counts, first)
+                 for row in part_rows(counts, many - 1, knots - first))
+
+
+def patterns_of(counts, store, knots):
+    """All patterns of a store with so many knots at most."""
+    return [(trees, index) + row for number in range(knots + 1) for trees, boxes in enumerate(store)
+            for row in part_rows(counts, trees, number) for index in range(boxes)]
+
+
+def boxes_alone(store):
+    return [(trees, index) + ((),) * trees for trees, boxes in enumerate(store) for index in range(boxes)]
+
+
+def opened_lot(counts, store, often, chosen):
+    """A lot that comes of so many openings of any of its patterns, at any holes, in any order."""
+    lot = boxes_alone(store)
+    for _ in range(often):
+        place = chosen.choice([place for place, pattern in enumerate(lot) if holes_of(pattern)])
+        pattern = lot.pop(place)
+        lot += opened(counts, pattern, chosen.randrange(holes_of(pattern)))
+    chosen.shuffle(lot)
+    return lot

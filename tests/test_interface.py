@@ -22,6 +22,15 @@ FUNCTIONS = {
     "powers": {"powers": "rule", "alike_powers": "rule one other"},
     "check_alike": {"shows_alike": "rule one other value", "shows_powers": "rule value"},
     "idle": {"idle_store": "rule", "idle_chain": "rule", "beside_idle": "rule store", "opened_to": "rule store number"},
+    "contraries": {"contrary": "rule number", "contrary_of": "rule store"},
+    "between": {"chain_between": "rule one other"},
+    "patterns": {"is_pattern": "rule store value", "holes_of": "rule store pattern", "fits": "rule store pattern thing",
+                 "trees_in": "rule store pattern thing", "filled": "rule store pattern trees",
+                 "within": "rule store one other", "common": "rule store one other",
+                 "opened_at": "rule store pattern hole", "boxes_of": "rule store",
+                 "pattern_text": "rule store pattern", "read_pattern": "rule store text"},
+    "lots": {"full": "rule store lot", "finer": "rule store one other", "hole_counts": "rule store lot"},
+    "check_lots": {"shows_full": "rule store lot value"},
 }
 
 CLASSES = {
@@ -38,6 +47,8 @@ CLASSES = {
     "alike": {"Divided": {"__init__": "self quotient"}, "Finite": {"__init__": "self which"},
               "Undivided": {"__init__": "self left"}},
     "powers": {"Round": {"__init__": "self number factors"}, "Never": {"__init__": "self why what"}},
+    "lots": {"Full": {"__init__": "self"}, "Twofold": {"__init__": "self thing one other"},
+             "Missed": {"__init__": "self thing"}},
 }
 
 
