@@ -3,7 +3,7 @@
 from sevenasone.checks import is_integer, is_within
 from sevenasone.lacking import is_full
 from sevenasone.lots import Full, Missed, Twofold, numbers_that_fit, rows_of_lot
-from sevenasone.rows import row_in_box
+from sevenasone.rows import row_in_box, told_by
 
 
 def shows_full(rule, store, lot, value):
@@ -16,7 +16,7 @@ def shows_full(rule, store, lot, value):
     row = row_in_box(rule, store, value.thing, False)
     if row is None:
         return False
-    numbers = numbers_that_fit(rows, row)
+    numbers = numbers_that_fit(rows, told_by(row))
     if type(value) is Missed:
         return len(numbers) == 0
     if not is_integer(value.one) or not is_within(value.other, value.one + 1, None):

@@ -2,7 +2,7 @@
 
 from sevenasone.forests import many_of, more_forests
 from sevenasone.overlaps import overlapping
-from sevenasone.rows import HOLE, common_row, holes_in, least_filled
+from sevenasone.rows import HOLE, common_row, holes_in, knots_in, least_filled
 
 
 def least_twofold(rows):
@@ -22,18 +22,13 @@ def least_twofold(rows):
     return None if best is None else best[1]
 
 
-def _knots_in(row):
-    """How many knots stand in the row of a pattern, its box not counted."""
-    return len(row) - holes_in(row) - 1
-
-
 def weigh_all(rule, store, rows):
-    """Whether patterns, no two of which have a common one, weigh as much as all boxes of the store together.
+    """Whether patterns weigh as much as all boxes of the store together.
 
     Each knot of a pattern divides its weight by how many knots the rule has. To stay with integers, all is multiplied
     by this number, once for each knot of a pattern that has the most.
     """
-    knots = [_knots_in(row) for row in rows]
+    knots = [knots_in(row) for row in rows]
     weight, boxes = 0, store.many
     for number in range(max(knots, default=0) + 1):
         if number > 0:
@@ -45,7 +40,10 @@ def weigh_all(rule, store, rows):
 
 def is_full(rule, store, rows):
     """Whether each thing of the store fits just one of the patterns."""
-    return least_twofold(rows) is None and weigh_all(rule, store, rows)
+    # A full lot weighs as much as its boxes: so most others are known by that alone, which takes less time.
+    if not weigh_all(rule, store, rows):
+        return False
+    return all([numbers == [index] for index, numbers in enumerate(overlapping(rows))])
 
 
 def _walk(row):
@@ -86,7 +84,7 @@ def _many_missed(table, size, trees, walks):
 
 def _table_to_missed(rule, store, rows):
     """For each size up to that of the least thing missed, how many rows of 0, 1, .. trees there are."""
-    sizes = [(_knots_in(row), holes_in(row)) for row in rows]
+    sizes = [(knots_in(row), holes_in(row)) for row in rows]
     table = [[1]]
     while True:
         size = len(table) - 1

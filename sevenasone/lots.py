@@ -2,10 +2,10 @@
 
 from sevenasone.errors import BadLot, TooMany
 from sevenasone.lacking import is_full, least_missed, least_twofold, weigh_all
-from sevenasone.overlaps import overlapping
+from sevenasone.overlaps import overlapping_pairs
 from sevenasone.papers import Denial, Paper
 from sevenasone.patterns import MOST_PATTERNS
-from sevenasone.rows import common_row, holes_in, row_in_box, rows_in_holes, told_by
+from sevenasone.rows import common_row, holes_in, row_in_box, told_by, trees_in_holes
 from sevenasone.rules import check_rule
 from sevenasone.stores import check_store
 
@@ -57,9 +57,9 @@ def rows_of_lot(rule, store, lot):
     return rows
 
 
-def numbers_that_fit(rows, row):
-    """The numbers of the patterns that a thing fits, ascending; all with their rows."""
-    return [number for number, pattern in enumerate(rows) if rows_in_holes(pattern, row) is not None]
+def numbers_that_fit(rows, thing):
+    """The numbers of the patterns, told by their rows, that a thing in tuples fits, ascending."""
+    return [number for number, row in enumerate(rows) if trees_in_holes(row, thing) is not None]
 
 
 def full(rule, store, lot):
@@ -67,8 +67,9 @@ def full(rule, store, lot):
     rows = rows_of_lot(rule, store, lot)
     twice = least_twofold(rows)
     if twice is not None:
-        numbers = numbers_that_fit(rows, twice)
-        return Twofold(told_by(twice), numbers[0], numbers[1])
+        thing = told_by(twice)
+        numbers = numbers_that_fit(rows, thing)
+        return Twofold(thing, numbers[0], numbers[1])
     if weigh_all(rule, store, rows):
         return Full()
     return Missed(told_by(least_missed(rule, store, rows)))
@@ -86,12 +87,9 @@ def finer(rule, store, one, other):
         raise BadLot("one")
     if not is_full(rule, store, further):
         raise BadLot("other")
-    both = rows + further
-    found = []
-    for row, numbers in zip(rows, overlapping(both)):
-        found.extend([told_by(common_row(row, both[number])) for number in numbers if number >= len(rows)])
-        _check_most(found)
-    return tuple(sorted(found))
+    pairs = overlapping_pairs(rows, further)
+    _check_most(pairs)
+    return tuple(sorted([told_by(common_row(rows[number], further[place])) for number, place in pairs]))
 
 
 def hole_counts(rule, store, lot):

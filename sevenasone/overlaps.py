@@ -39,3 +39,11 @@ def overlapping(rows):
             unlike = unlike | (some_knot[place] ^ this_knot[place, knot])
         found.append([number for number in range(len(rows)) if (unlike >> number) & 1 == 0])
     return found
+
+
+def overlapping_pairs(rows, others):
+    """The pairs of numbers, ascending, of one of these patterns and one of others that have a common one."""
+    found = []
+    for number, places in enumerate(overlapping(rows + others)[:len(rows)]):
+        found.extend([(number, place - len(rows)) for place in places if place >= len(rows)])
+    return found

@@ -2,11 +2,11 @@
 
 from sevenasone.checks import is_within
 from sevenasone.errors import BadPattern, BadTree, Misfit, NoHole, TooMany
-from sevenasone.rows import HOLE, common_row, holes_in, read_in_box, row_in_box, row_of, row_text, rows_in_holes
-from sevenasone.rows import told_by
+from sevenasone.rows import box_alone, common_row, holes_in, opened_row, read_in_box, row_in_box, row_of, row_text
+from sevenasone.rows import told_by, told_with, trees_in_holes
 from sevenasone.rules import check_rule
-from sevenasone.stores import check_store
-from sevenasone.things import checked_row
+from sevenasone.stores import all_boxes, check_store
+from sevenasone.things import checked_thing
 
 MOST_PATTERNS = 400
 
@@ -35,24 +35,24 @@ def holes_of(rule, store, pattern):
     return holes_in(_row_of_pattern(rule, store, pattern, "pattern"))
 
 
-def _rows_in_holes_of(rule, store, pattern, thing):
-    """The rows of the trees in the holes of the pattern, None if the thing does not fit; with the errors of all."""
+def _trees_in_holes_of(rule, store, pattern, thing):
+    """The trees in the holes of the pattern, None if the thing does not fit; with the errors of all."""
     _check_both(rule, store)
     row = _row_of_pattern(rule, store, pattern, "pattern")
-    return rows_in_holes(row, checked_row(rule, store, thing))
+    return trees_in_holes(row, checked_thing(rule, store, thing))
 
 
 def fits(rule, store, pattern, thing):
     """Whether the thing fits the pattern."""
-    return _rows_in_holes_of(rule, store, pattern, thing) is not None
+    return _trees_in_holes_of(rule, store, pattern, thing) is not None
 
 
 def trees_in(rule, store, pattern, thing):
     """The tuple of the trees that stand in the holes of the pattern, in a thing that fits it."""
-    rows = _rows_in_holes_of(rule, store, pattern, thing)
-    if rows is None:
+    trees = _trees_in_holes_of(rule, store, pattern, thing)
+    if trees is None:
         raise Misfit("thing")
-    return tuple([told_by(row) for row in rows])
+    return tuple(trees)
 
 
 def _rows_of_trees(rule, trees):
@@ -72,15 +72,7 @@ def filled(rule, store, pattern, trees):
         raise BadTree("trees")
     if len(rows) != holes_in(row):
         raise Misfit("trees")
-    full = []
-    hole = 0
-    for item in row:
-        if item == HOLE:
-            full.extend(rows[hole])
-            hole += 1
-        else:
-            full.append(item)
-    return told_by(full)
+    return told_with(row, [told_by(tree) for tree in rows])
 
 
 def _rows_of_both(rule, store, one, other):
@@ -106,11 +98,9 @@ def opened_at(rule, store, pattern, hole):
     """The tuple of the patterns that have a knot in this hole, and holes for its parts: for all knots, ascending."""
     _check_both(rule, store)
     row = _row_of_pattern(rule, store, pattern, "pattern")
-    holes = [place for place, item in enumerate(row) if item == HOLE]
-    if not is_within(hole, 0, len(holes) - 1):
+    if not is_within(hole, 0, holes_in(row) - 1):
         raise NoHole(hole)
-    ahead, behind = row[:holes[hole]], row[holes[hole] + 1:]
-    return tuple([told_by([*ahead, knot, *([HOLE] * knot[0]), *behind]) for knot in rule.knots])
+    return tuple([told_by(opened_row(row, hole, knot)) for knot in rule.knots])
 
 
 def boxes_of(rule, store):
@@ -118,8 +108,7 @@ def boxes_of(rule, store):
     _check_both(rule, store)
     if store.many > MOST_PATTERNS:
         raise TooMany("patterns", MOST_PATTERNS)
-    boxes = [(trees, index) for trees, many in enumerate(store.counts) for index in range(many)]
-    return tuple([told_by([box] + [HOLE] * box[0]) for box in boxes])
+    return tuple([told_by(box_alone(box)) for box in all_boxes(store)])
 
 
 def pattern_text(rule, store, pattern):

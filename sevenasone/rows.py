@@ -57,15 +57,59 @@ def row_in_box(rule, store, value, holes):
     return None if row is None else [(value[0], value[1]), *row]
 
 
+def told_with(row, trees):
+    """The tree, thing or pattern that a row tells, with these trees, or other parts, in its holes."""
+    coming, told = list(trees), []
+    for item in reversed(row):
+        if item == HOLE:
+            told.append(coming.pop())
+        else:
+            start = len(told) - item[0]
+            below = told[start:]
+            del told[start:]
+            told.append((*item, *below[::-1]))
+    return told[0]
+
+
 def told_by(row):
     """The tree, thing or pattern that a row tells."""
-    told = []
-    for item in reversed(row):
-        start = len(told) - parts_of(item)
-        below = told[start:]
-        del told[start:]
-        told.append((*item, *below[::-1]))
-    return told[0]
+    return told_with(row, [HOLE] * holes_in(row))
+
+
+def trees_in_holes(row, thing):
+    """The trees in the holes of a pattern, told by its row, in a thing in tuples; None if it does not fit."""
+    found, waiting = [], [thing]
+    for item in row:
+        tree = waiting.pop()
+        if item == HOLE:
+            found.append(tree)
+        elif item == tree[:2]:
+            waiting.extend(tree[:1:-1])
+        else:
+            return None
+    return found
+
+
+def box_alone(box):
+    """The row of a box with holes alone."""
+    return [box] + [HOLE] * box[0]
+
+
+def opened_row(row, hole, knot):
+    """The row of a pattern with this knot in the hole with this number, and holes for its parts."""
+    place = [at for at, item in enumerate(row) if item == HOLE][hole]
+    return [*row[:place], knot, *([HOLE] * knot[0]), *row[place + 1:]]
+
+
+def layers_in(row):
+    """The most items of a row that follow one another, each a part of the one ahead; a hole is none."""
+    most, waiting = 0, [1]
+    for item in row:
+        layer = waiting.pop()
+        if item != HOLE:
+            most = max(most, layer)
+            waiting.extend([layer + 1] * item[0])
+    return most
 
 
 def row_text(row):
@@ -106,6 +150,11 @@ def holes_in(row):
     return row.count(HOLE)
 
 
+def knots_in(row):
+    """How many knots stand in the row of a thing or a pattern; its box is none."""
+    return len(row) - holes_in(row) - 1
+
+
 def least_filled(row):
     """The row with the least tree in each hole."""
     return [LEAST_LEAF if item == HOLE else item for item in row]
@@ -118,20 +167,6 @@ def end_of(row, start):
         missing += parts_of(row[place]) - 1
         place += 1
     return place
-
-
-def rows_in_holes(pattern, row):
-    """What stands in the holes of a pattern's row, by a row that has all its knots; None if that lacks one."""
-    found, place = [], 0
-    for item in pattern:
-        if item == HOLE:
-            found.append(row[place:end_of(row, place)])
-            place += len(found[-1])
-        elif item == row[place]:
-            place += 1
-        else:
-            return None
-    return found
 
 
 def common_row(one, other):

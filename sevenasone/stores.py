@@ -79,6 +79,11 @@ def boxes_with(store, trees):
     return store.counts[trees]
 
 
+def all_boxes(store):
+    """The boxes of the store, ascending."""
+    return [(trees, index) for trees, many in enumerate(store.counts) for index in range(many)]
+
+
 def power_of(number):
     """The store of one box that holds so many trees."""
     if not is_within(number, 0, MOST_TREES):

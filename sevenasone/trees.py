@@ -1,7 +1,7 @@
 """Trees: knots with parts, each of them a tree."""
 
 from sevenasone.errors import BadTree
-from sevenasone.rows import parts_of, read_row, row_of, row_text, told_by
+from sevenasone.rows import layers_in, read_row, row_of, row_text, told_by
 from sevenasone.rules import check_rule
 from sevenasone.texts import items_of
 
@@ -27,13 +27,7 @@ def size_of(rule, tree):
 
 def layers_of(rule, tree):
     """The most knots of the tree that follow one another, each a part of the one ahead."""
-    layers = []
-    for knot in reversed(_checked_row(rule, tree)):
-        start = len(layers) - parts_of(knot)
-        below = layers[start:]
-        del layers[start:]
-        layers.append(1 + max(below, default=0))
-    return layers[0]
+    return layers_in(_checked_row(rule, tree))
 
 
 def tree_text(rule, tree):

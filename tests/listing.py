@@ -30,7 +30,7 @@ def things_of(counts, store, size):
     """All things of a store with these counts that have this size, ascending."""
     found = []
     for trees, boxes in enumerate(store):
-        for row in rows_of(counts, trees, size):
+        for row in rows_of(counts, trees, size) if boxes else ():
             found.extend((trees, index) + row for index in range(boxes))
     return sorted(found)
 

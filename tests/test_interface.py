@@ -31,6 +31,10 @@ FUNCTIONS = {
                  "pattern_text": "rule store pattern", "read_pattern": "rule store text"},
     "lots": {"full": "rule store lot", "finer": "rule store one other", "hole_counts": "rule store lot"},
     "check_lots": {"shows_full": "rule store lot value"},
+    "looks": {"looks": "rule store lot", "number_by": "rule store lot ways thing"},
+    "check_looks": {"shows_looks": "rule store lot value"},
+    "made": {"nothing_done": "rule store", "table_of": "chain"},
+    "same": {"same": "one other"},
 }
 
 CLASSES = {
@@ -49,6 +53,10 @@ CLASSES = {
     "powers": {"Round": {"__init__": "self number factors"}, "Never": {"__init__": "self why what"}},
     "lots": {"Full": {"__init__": "self"}, "Twofold": {"__init__": "self thing one other"},
              "Missed": {"__init__": "self thing"}},
+    "looks": {"Looked": {"__init__": "self ways"}, "Stuck": {"__init__": "self pattern"}},
+    "tables": {"Table": {"__init__": "self rule one other pairs", "__eq__": "self other", "run": "self thing",
+                         "back": "self thing", "backwards": "self", "then": "self other", "beside": "self other"}},
+    "same": {"Same": {"__init__": "self"}, "Parted": {"__init__": "self thing"}},
 }
 
 
