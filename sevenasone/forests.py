@@ -1,17 +1,34 @@
 """Forests: trees in a row, by how many they are and how many knots they have together."""
 
 
-def more_forests(rule, many):
-    """How many rows of 0, 1, .. trees there are with one knot more, from how many there are of those.
+def _rows_by_parts(rule, knots):
+    """How many rows of so many knots have 0, 1, .. parts in all, fewer than there are knots.
 
-    Without the first knot of a row, the parts of it stand in the place of its first tree.
+    They are the numbers of q, the product of so many p. Let p' have at k - 1 the number of p at k, k times, and q' that
+    of q; then q' times p is q times p', so many times. So each number of q follows from those ahead of it.
     """
-    found = [0] * (len(many) + 1)
-    for parts, sorts in enumerate(rule.counts):
-        if sorts > 0:
-            for others, number in enumerate(many[parts:]):
-                found[others + 1] += sorts * number
-    return found
+    first = 1
+    for _ in range(knots):
+        first = first * rule.counts[0]
+    numbers = [first]
+    for place in range(1, knots):
+        total = 0
+        for parts in range(1, min(place, rule.top) + 1):
+            total += (knots * parts - place + parts) * rule.counts[parts] * numbers[place - parts]
+        numbers.append(total // (place * rule.counts[0]))
+    return numbers
+
+
+def forests_with(rule, size):
+    """How many rows of 0, 1, .. trees have this size together, as far as there are such.
+
+    Of the turnings of as many knots in a row, which have k parts less than they are, just k are k trees: so there are
+    k times as many such rows of knots, divided by how many knots they have.
+    """
+    if size == 0:
+        return [1]
+    rows = _rows_by_parts(rule, size)
+    return [0] + [trees * rows[size - trees] // size for trees in range(1, size + 1)]
 
 
 def many_of(table, size, trees):

@@ -1,6 +1,6 @@
 """What fits no pattern of a lot, or two: told by the rows of the patterns."""
 
-from sevenasone.forests import many_of, more_forests
+from sevenasone.forests import forests_with, many_of
 from sevenasone.overlaps import overlapping
 from sevenasone.rows import HOLE, common_row, holes_in, knots_in, least_filled
 
@@ -91,7 +91,7 @@ def _table_to_missed(rule, store, rows):
         there = sum([boxes * many_of(table, size, trees) for trees, boxes in enumerate(store.counts)])
         if there > sum([many_of(table, size - knots, holes) for knots, holes in sizes]):
             return table
-        table.append(more_forests(rule, table[-1]))
+        table.append(forests_with(rule, len(table)))
 
 
 def _least_box(store, table, walks):

@@ -62,14 +62,19 @@ def _meeting(pairs, others):
     return [(pairs[number], others[place]) for number, place in numbers]
 
 
-def same(one, other):
-    """A Same, or the Parted of a thing that the tables turn into unlike ones."""
+def check_two(one, other):
+    """The errors of two tables that do not lead from one store to one store."""
     check_table(one, "one")
     check_table(other, "other")
     if one.rule != other.rule:
         raise Misfit("rules")
     if one.one != other.one or one.other != other.other:
         raise Misfit("stores")
+
+
+def same(one, other):
+    """A Same, or the Parted of a thing that the tables turn into unlike ones."""
+    check_two(one, other)
     meeting = _meeting(one.rows, other.rows)
     if len(meeting) > MANY_MEETING:
         meeting = _meeting(fewer_pairs(one.rule, one.rows), fewer_pairs(one.rule, other.rows))

@@ -2,7 +2,7 @@
 
 from sevenasone.checks import is_within
 from sevenasone.errors import BadNumber, BadThing, TooMany
-from sevenasone.forests import forests_of, more_forests
+from sevenasone.forests import forests_of, forests_with
 from sevenasone.rows import read_in_box, row_in_box, row_text, told_by
 from sevenasone.rules import check_rule
 from sevenasone.stores import boxes_with, check_store
@@ -57,7 +57,7 @@ def _forests_to(rule, store, size):
     table = [[1]]
     things = boxes_with(store, 0)
     while things <= MOST_THINGS and len(table) <= size:
-        table.append(more_forests(rule, table[-1]))
+        table.append(forests_with(rule, len(table)))
         things += sum([many * boxes_with(store, trees) for trees, many in enumerate(table[-1])])
     if things > MOST_THINGS:
         raise TooMany("things", MOST_THINGS)

@@ -35,6 +35,11 @@ FUNCTIONS = {
     "check_looks": {"shows_looks": "rule store lot value"},
     "made": {"nothing_done": "rule store", "table_of": "chain"},
     "same": {"same": "one other"},
+    "check_tables": {"shows_same": "one other value"},
+    "sizes": {"trees_of": "rule size", "things_of": "rule store size", "unlike_size": "rule one other"},
+    "numbered": {"thing_at": "rule store size number", "number_of": "rule store thing"},
+    "keeping": {"keeps_size": "table"},
+    "check_sizes": {"shows_keeping": "table value"},
 }
 
 CLASSES = {
@@ -57,6 +62,7 @@ CLASSES = {
     "tables": {"Table": {"__init__": "self rule one other pairs", "__eq__": "self other", "run": "self thing",
                          "back": "self thing", "backwards": "self", "then": "self other", "beside": "self other"}},
     "same": {"Same": {"__init__": "self"}, "Parted": {"__init__": "self thing"}},
+    "keeping": {"Keeps": {"__init__": "self"}, "Changes": {"__init__": "self thing"}},
 }
 
 
