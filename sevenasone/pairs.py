@@ -20,7 +20,7 @@ def rows_of_pair(rule, one, other, value):
     order = value[2]
     if not is_numbers(order) or sorted(order) != list(range(holes_in(left))):
         return None
-    return (left, right, tuple(order))
+    return (tuple(left), tuple(right), tuple(order))
 
 
 def told_pair(pair):

@@ -9,7 +9,7 @@ from sevenasone.rows import LEAST_LEAF, common_row, holes_in, told_with
 from sevenasone.tables import check_table
 
 # To make pairs fewer takes about as long as to compare so many of them.
-MANY_MEETING = 2000
+MANY_MEETING = 1000
 
 
 class Same(Paper):
@@ -29,13 +29,11 @@ class Parted(Denial):
 
 def _first_unlike(one, other):
     """The first parts, in one place, in which two unlike patterns with marks have unlike knots or marks."""
-    waiting = [(one, other)]
-    while True:
-        first, second = waiting.pop()
-        if is_mark(first) or is_mark(second) or first[:2] != second[:2]:
-            return (first, second)
-        below = [(part, another) for part, another in zip(first[2:], second[2:]) if part != another]
-        waiting.extend(below[::-1])
+    first, second = one, other
+    while not is_mark(first) and not is_mark(second) and first[:2] == second[:2]:
+        unlike = [pair for pair in zip(first[2:], second[2:]) if pair[0] != pair[1]]
+        first, second = unlike[0]
+    return (first, second)
 
 
 def _tree_unlike(rule, knot):
@@ -72,16 +70,23 @@ def check_two(one, other):
         raise Misfit("stores")
 
 
-def same(one, other):
-    """A Same, or the Parted of a thing that the tables turn into unlike ones."""
-    check_two(one, other)
-    meeting = _meeting(one.rows, other.rows)
-    if len(meeting) > MANY_MEETING:
-        meeting = _meeting(fewer_pairs(one.rule, one.rows), fewer_pairs(one.rule, other.rows))
+def _thing_parted(rule, meeting):
+    """A thing that shows that two pairs that meet do not do the same; None if all do."""
     for pair, another in meeting:
         row = common_row(pair[0], another[0])
         thing = marked(row)
         first, second = turned_by(pair, thing), turned_by(another, thing)
         if first != second:
-            return Parted(_shown(one.rule, row, first, second))
-    return Same()
+            return _shown(rule, row, first, second)
+    return None
+
+
+def same(one, other):
+    """A Same, or the Parted of a thing that the tables turn into unlike ones."""
+    check_two(one, other)
+    meeting = _meeting(one.rows, other.rows)
+    thing = _thing_parted(one.rule, meeting[:MANY_MEETING])
+    if thing is None and len(meeting) > MANY_MEETING:
+        meeting = _meeting(fewer_pairs(one.rule, one.rows), fewer_pairs(one.rule, other.rows))
+        thing = _thing_parted(one.rule, meeting)
+    return Same() if thing is None else Parted(thing)

@@ -80,6 +80,7 @@ class Table:
         self.pairs = tuple([told_pair(pair) for pair in rows])
         self.layers = layers
         self.rows = tuple(rows)
+        self.rows_back = tuple([pair_backwards(pair) for pair in rows])
 
     def __eq__(self, other):
         if not isinstance(other, Table):
@@ -93,12 +94,11 @@ class Table:
 
     def back(self, thing):
         """What becomes a thing of other."""
-        return _turned([pair_backwards(pair) for pair in self.rows], checked_thing(self.rule, self.other, thing))
+        return _turned(self.rows_back, checked_thing(self.rule, self.other, thing))
 
     def backwards(self):
         """The table from other to one that turns back."""
-        pairs = [told_pair(pair_backwards(pair)) for pair in self.rows]
-        return Table(self.rule, self.other, self.one, pairs)
+        return Table(self.rule, self.other, self.one, [told_pair(pair) for pair in self.rows_back])
 
     def then(self, other):
         """The table of both, the other one behind."""
@@ -117,7 +117,6 @@ class Table:
         check_table(other, "other")
         if self.rule != other.rule:
             raise Misfit("rules")
-        check_most(len(self.pairs) + len(other.pairs))
         behind = tuple([_shifted_pair(pair, self.one, self.other) for pair in other.pairs])
         return Table(self.rule, self.one.plus(other.one), self.other.plus(other.other), self.pairs + behind)
 

@@ -240,13 +240,29 @@ class FewerPairs(Refusals, unittest.TestCase):
 
     def test_they_do_the_same(self):
         chosen = random.Random(13)
-        for table in some_tables(14):
-            for often in (0, 5, 20):
-                one = told(table, often, chosen)
-                fewer = Table(one.rule, one.one, one.other, self.pairs(one))
-                self.assertLessEqual(len(fewer.pairs), len(one.pairs))
-                for thing in things_of(one, 15):
-                    self.exactly(fewer.run(thing), one.run(thing))
+        for number in range(600):
+            rule = chosen.choice(RULES)
+            store = chosen.choice(STORES[:6] + [Store([0, 2, 1]), Store([1, 0, 0, 0, 1])])
+            pairs = tabling.some_pairs(rule.counts, store.counts, chosen.randrange(5), chosen)
+            one = told(Table(rule, store, store, pairs), chosen.randrange(12), chosen)
+            fewer = Table(rule, store, store, self.pairs(one))
+            self.assertLessEqual(len(fewer.pairs), len(one.pairs))
+            for thing in things_of(one, 6) + [pair[0] for pair in one.pairs if not pair[2]]:
+                self.exactly(fewer.run(thing), one.run(thing))
+            if number % 5 == 0:
+                self.assertEqual(same(fewer, one), Same())
+                self.exactly(fewer.then(one.backwards()).pairs, tuple(sorted(tabling.nothing(
+                    pair[0] for pair in fewer.then(one.backwards()).pairs))))
+
+    def test_one_odd_pair_among_many(self):
+        chosen = random.Random(16)
+        for table in (nothing_done(BINARY, X), nothing_done(BINARY, TWO), FLIP, WHEEL) * 3:
+            one = holes_exchanged(told(table, 40 + chosen.randrange(30), chosen), chosen)
+            fewer = Table(one.rule, one.one, one.other, self.pairs(one))
+            self.exactly(same(fewer, one).word, "same")
+            self.exactly(same(fewer, table).word, "parted")
+            for thing in things_of(one, 10):
+                self.exactly(fewer.run(thing), one.run(thing))
 
     def test_they_are_few(self):
         chosen = random.Random(15)
